@@ -1,0 +1,1 @@
+"""Rules over rows of steps: which are kept, and which row keeps all."""
