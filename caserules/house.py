@@ -1,16 +1,24 @@
 """A house with its rules, and the calls on it."""
 
 from caserules.kinds import is_form, is_step
-from caserules.search import all_kept, earliest_row, verdicts_of
+from caserules.near import nearest_row
+from caserules.search import Spots, broken_in, earliest_row, rows_that_keep_all, verdicts_of
+from caserules.together import clashes_of, spare_of
 
 BEGINS = 0
 RULE = 1
 DROP = 2
 JUDGE = 3
 SHORTEST = 4
+COUNT = 5
+CLASHES = 6
+SPARE = 7
+BREAKS = 8
+NEAREST = 9
 
 MOST_RULES = 4
 LONGEST_ROW = 8
+MOST_COUNTED = 10
 
 WRONG_FORM = -1
 NO_SUCH_RULE = -2
@@ -19,7 +27,7 @@ TOO_MANY_RULES = -7
 
 
 class UnknownCall(ValueError):
-    """A call by a number that this house doesn't answer."""
+    """A call by a number that no call has."""
 
 
 class House:
@@ -51,13 +59,48 @@ class House:
         if not is_row(steps):
             return [WRONG_FORM]
         verdicts = verdicts_of(self.rules, steps)
-        return [1 if all_kept(verdicts) else 0] + verdicts
+        return [1 if broken_in(verdicts) == [] else 0] + verdicts
 
     def shortest(self):
-        row = earliest_row(self.rules)
-        if row is None:
+        return told_row(earliest_row(Spots(self.rules), []))
+
+    def count(self, many):
+        if many > MOST_COUNTED:
+            return [WRONG_FORM]
+        return [rows_that_keep_all(Spots(self.rules), many)]
+
+    def clashes(self):
+        found = clashes_of(Spots(self.rules), len(self.rules))
+        told = [len(found)]
+        for clash in found:
+            told.append(len(clash))
+            told.extend(clash)
+        return told
+
+    def spare(self):
+        found = spare_of(Spots(self.rules), len(self.rules))
+        return [len(found)] + found
+
+    def breaks(self, which):
+        if which >= len(self.rules):
+            return [NO_SUCH_RULE]
+        return told_row(earliest_row(Spots(self.rules), [which]))
+
+    def nearest(self, steps):
+        # The document names the wrong row first, so it is told even where no row keeps all rules.
+        if not is_row(steps):
+            return [WRONG_FORM]
+        found = nearest_row(Spots(self.rules), steps)
+        if found is None:
             return [NO_SUCH_ROW]
-        return [len(row)] + list(row)
+        return [found[0]] + list(found[1])
+
+
+def told_row(row):
+    """A row with its length ahead of it, or the refusal where there is none."""
+    if row is None:
+        return [NO_SUCH_ROW]
+    return [len(row)] + list(row)
 
 
 def is_row(steps):
@@ -83,15 +126,25 @@ def answer_at(house, calls, place):
         return house.judge(row_at(calls, place + 1))
     if call == SHORTEST:
         return house.shortest()
+    if call == COUNT:
+        return house.count(calls[place + 1])
+    if call == CLASHES:
+        return house.clashes()
+    if call == SPARE:
+        return house.spare()
+    if call == BREAKS:
+        return house.breaks(calls[place + 1])
+    if call == NEAREST:
+        return house.nearest(row_at(calls, place + 1))
     raise UnknownCall(f"there is no call {call}")
 
 
 def place_behind(calls, place):
     """Where the call that begins at this place has ended."""
     call = calls[place]
-    if call == RULE or call == JUDGE:
+    if call in (RULE, JUDGE, NEAREST):
         return place + 2 + calls[place + 1]
-    if call == DROP:
+    if call in (DROP, COUNT, BREAKS):
         return place + 2
     return place + 1
 

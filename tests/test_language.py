@@ -30,6 +30,7 @@ WORDS_OUT = (
     r"\b(type|typing|typing_extensions|enum|Enum|IntEnum|StrEnum|Flag|IntFlag|Generic|Protocol|ABC|ABCMeta|namedtuple|"
     r"NamedTuple|TypedDict|TYPE_CHECKING|abstractmethod)\b|dataclass|overload|contextmanager"
 )
+WALKED = ("range", "enumerate", "zip", "reversed", "items", "keys", "values")
 TWO_UNDERSCORES = ("__init__", "__eq__", "__repr__", "__str__", "__len__")
 
 
@@ -163,6 +164,29 @@ class Language(unittest.TestCase):
         for path, node in nodes(ast.Call):
             if isinstance(node.func, ast.Attribute):
                 self.assertIn(node.func.attr, METHODS | own, self.where(path, node))
+
+    def test_no_value_is_called_like_a_method(self):
+        own = {node.name for path, node in nodes(ast.FunctionDef)}
+        for path, node in nodes(ast.Attribute):
+            if isinstance(node.ctx, ast.Store):
+                self.assertNotIn(node.attr, own | METHODS, self.where(path, node))
+                for value in ("", b"", 0, [], (), {}, set()):
+                    self.assertFalse(hasattr(value, node.attr), self.where(path, node))
+
+    def test_walked_at_once(self):
+        walking = ("list", "tuple", "dict", "sorted", "sum", "any", "all", "enumerate", "zip", "min", "max")
+        for path, tree in trees():
+            walked = [node.iter for node in ast.walk(tree) if isinstance(node, (ast.For, ast.comprehension))]
+            for node in ast.walk(tree):
+                if isinstance(node, ast.Call) and isinstance(node.func, ast.Name) and node.func.id in walking:
+                    walked.extend(node.args)
+            for node in ast.walk(tree):
+                if isinstance(node, ast.Call) and self.called(node) in WALKED:
+                    self.assertIn(node, walked, self.where(path, node))
+
+    @staticmethod
+    def called(node):
+        return node.func.id if isinstance(node.func, ast.Name) else node.func.attr
 
 
 if __name__ == "__main__":

@@ -2,7 +2,9 @@ import itertools
 import random
 import unittest
 
-from tests.plain import ask, begins, drop, every_rule, is_kept, last, rows_up_to, rule, shortest
+from tests.plain import (
+    ask, begins, drop, every_rule, is_kept, last, rows_of_three, rule, short_rows, shortest, speaks_of,
+)
 
 
 def asked(told):
@@ -57,82 +59,53 @@ class Shortest(unittest.TestCase):
 
 
 class AgainstPlainSearch(unittest.TestCase):
-    LONGEST = 6
-
-    @classmethod
-    def setUpClass(cls):
-        cls.rules = every_rule()
-        cls.rows = rows_up_to(cls.LONGEST)
-        # Bit k of a rule's number is set if it is kept by row k: the lowest bit that several share is the earliest row.
-        cls.keeping = {}
-        for numbers in cls.rules:
-            bits = "".join("1" if is_kept(numbers, row) else "0" for row in reversed(cls.rows))
-            cls.keeping[numbers] = int(bits, 2)
-
-    def found(self, told):
-        """The earliest of the short rows that keeps all, or None."""
-        shared = (1 << len(self.rows)) - 1
-        for numbers in told:
-            shared &= self.keeping[numbers]
-        if shared == 0:
-            return None
-        return self.rows[(shared & -shared).bit_length() - 1]
-
     def compare(self, told):
-        row = self.found(told)
+        row = short_rows().shortest(told)
         answered = asked(told)
         if row is not None:
             self.assertEqual(answered, [len(row), *row], told)
         elif answered != [-6]:
-            self.assertGreater(answered[0], self.LONGEST, told)
+            self.assertGreater(answered[0], short_rows().longest, told)
             self.assertEqual(answered[0], len(answered) - 1, told)
             for numbers in told:
                 self.assertTrue(is_kept(numbers, answered[1:]), (told, answered))
         return row, answered
 
     def test_every_rule_alone(self):
-        for numbers in self.rules:
+        for numbers in every_rule():
             self.compare([numbers])
 
     def test_every_two_rules(self):
         # No two rules need more than 6 steps, so here the plain search also tells that there is no such row.
-        for told in itertools.combinations(self.rules, 2):
+        for told in itertools.combinations(every_rule(), 2):
             row, answered = self.compare(told)
             if row is None:
                 self.assertEqual(answered, [-6], told)
 
     def test_three_and_four_rules(self):
         chance = random.Random(1)
+        rules = every_rule()
         for many in (3, 4):
             for turn in range(3000):
-                self.compare([chance.choice(self.rules) for place in range(many)])
+                self.compare([chance.choice(rules) for place in range(many)])
 
     def test_rules_that_hang_together(self):
         # Rules of two or three steps only meet each other far more often than those of all five.
         chance = random.Random(2)
         for steps in (2, 3):
-            near = [numbers for numbers in self.rules if self.speaks_of(numbers, steps)]
+            close = [numbers for numbers in every_rule() if speaks_of(numbers, steps)]
             for turn in range(3000):
-                self.compare([chance.choice(near) for place in range(4)])
-
-    @staticmethod
-    def speaks_of(numbers, steps):
-        return numbers[1] < steps and (numbers[0] < 4 or numbers[2] < steps)
+                self.compare([chance.choice(close) for place in range(4)])
 
 
 class LongPlainSearch(unittest.TestCase):
     def test_refused_only_where_no_longer_row_is_there(self):
-        # Of rules that speak of 0 and 1 alone, any other steps are alike: rows of 0, 1 and 2 stand for all rows.
-        rows = rows_up_to(9, 3)
-        near = [numbers for numbers in every_rule() if AgainstPlainSearch.speaks_of(numbers, 2)]
+        close = list(rows_of_three().keeping)
         chance = random.Random(3)
-        refused = 0
-        while refused < 60:
-            told = [chance.choice(near) for place in range(4)]
-            if asked(told) == [-6]:
-                refused += 1
-                for row in rows:
-                    self.assertFalse(all(is_kept(numbers, row) for numbers in told), (told, row))
+        for turn in range(3000):
+            told = [chance.choice(close) for place in range(4)]
+            row = rows_of_three().shortest(told)
+            self.assertEqual(asked(told), [-6] if row is None else [len(row), *row], told)
 
 
 if __name__ == "__main__":
